@@ -1,0 +1,1 @@
+"""Bellwheel: bells on a wheel of slots, with turns to go."""
