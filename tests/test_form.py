@@ -19,6 +19,12 @@ BANNED_WORDS = re.compile(
     r"|NamedTuple|TypedDict|TYPE_CHECKING|abstractmethod)\b|dataclass|overload|contextmanager"
 )
 
+# The methods of Python's own values that may be called.
+PYTHON_METHODS = """append clear copy count endswith extend find get index insert isalnum isalpha isdigit islower
+    isspace isupper items join keys ljust lower lstrip partition pop remove replace reverse rfind rjust rpartition
+    rsplit rstrip setdefault split splitlines startswith strip update upper values zfill bit_length""".split()
+TAKEN_NAMES = {name for kind in (str, int, list, dict, set, bytes, tuple) for name in dir(kind)}
+
 
 def package_files():
     return sorted(path for path in PACKAGE.rglob("*") if path.is_file() and "__pycache__" not in path.parts)
@@ -45,9 +51,22 @@ def bound_names(tree):
     return names
 
 
+def attributes(tree):
+    """The attributes that are called, and those that are read or given a value."""
+    nodes = list(ast.walk(tree))
+    called = [node.func for node in nodes if isinstance(node, ast.Call) and isinstance(node.func, ast.Attribute)]
+    kept = [node for node in nodes if isinstance(node, ast.Attribute) and node not in called]
+    return ([node.attr for node in called], [node.attr for node in kept])
+
+
+def methods(tree):
+    classes = [node for node in ast.walk(tree) if isinstance(node, ast.ClassDef)]
+    return [part.name for node in classes for part in node.body if isinstance(part, ast.FunctionDef)]
+
+
 class FormCase(unittest.TestCase):
     def test_modules_are_there(self):
-        for name in ("bellwheel", "bellwheel.errors", "bellwheel.slots"):
+        for name in ("bellwheel", "bellwheel.errors", "bellwheel.slots", "bellwheel.wheel", "bellwheel.day"):
             self.assertEqual(importlib.import_module(name).__name__, name)
 
     def test_only_python_files_with_plain_names(self):
@@ -94,6 +113,44 @@ class FormCase(unittest.TestCase):
             for node in ast.walk(tree):
                 if isinstance(node, ast.Name) and node.id not in own and not node.id.endswith("Error"):
                     self.assertIn(node.id, PYTHON_NAMES + ["Exception", "StopIteration"], name)
+
+    def test_classes_hold_methods_alone(self):
+        for name, tree in trees():
+            for node in ast.walk(tree):
+                if isinstance(node, ast.ClassDef):
+                    self.assertIn(node, tree.body, (name, node.name))
+                    self.assertEqual((node.decorator_list, node.keywords), ([], []), (name, node.name))
+                    rows = [part for part in node.body if not isinstance(part, ast.FunctionDef)]
+                    self.assertTrue(all(isinstance(part, ast.Expr) for part in rows), (name, node.name))
+            self.assertEqual(len(methods(tree)), len(set(methods(tree))), name)
+
+    def test_methods_and_values_have_free_names(self):
+        own = [method for name, tree in trees() for method in methods(tree)]
+        for method in own:
+            self.assertTrue(method == "__init__" or method not in TAKEN_NAMES, method)
+        for name, tree in trees():
+            called, kept = attributes(tree)
+            for attribute in called:
+                self.assertIn(attribute, own + PYTHON_METHODS, name)
+            for attribute in kept:
+                self.assertNotIn(attribute, own, name)
+                self.assertNotIn(attribute, TAKEN_NAMES, name)
+
+    def test_statements_are_plain(self):
+        for name, tree in trees():
+            for node in ast.walk(tree):
+                if isinstance(node, ast.Assign):
+                    self.assertEqual(len(node.targets), 1, name)
+                if isinstance(node, (ast.For, ast.While)):
+                    self.assertEqual(node.orelse, [], name)
+                if isinstance(node, ast.Compare):
+                    beside = [part.value if isinstance(part, ast.Constant) else 0 for part in node.comparators]
+                    for sign, value in zip(node.ops, beside, strict=True):
+                        plain = value is None or value is True or value is False
+                        self.assertTrue(plain or not isinstance(sign, (ast.Is, ast.IsNot)), name)
+                if isinstance(node, ast.ListComp):
+                    self.assertEqual(len(node.generators), 1, name)
+                    self.assertLessEqual(len(node.generators[0].ifs), 1, name)
 
 
 if __name__ == "__main__":
