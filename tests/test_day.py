@@ -13,13 +13,11 @@ HUGE = 10 ** 30
 
 class DayCase(unittest.TestCase):
     def check_answers(self, deeds, expected):
-        """The answers are these on every wheel, and so on the plain list of bells and ticks."""
+        """The answers are these on every wheel; they and what is behind the day are as on the plain list of bells."""
         self.assertEqual(plain_answers(deeds), expected)
-        for size in SIZES:
-            with self.subTest(size=size):
-                self.assertEqual(answers(size, deeds), expected)
+        self.check_against_plain(deeds, SIZES)
 
-    def check_against_plain(self, deeds, sizes=SIZES):
+    def check_against_plain(self, deeds, sizes):
         expected = plain_answers(deeds)
         for size in sizes:
             with self.subTest(size=size):
